@@ -650,14 +650,17 @@ func TestPromise1SplitsShareNoMemory(t *testing.T) {
 
 func TestPromise1IntegersFromSeveralGoroutines(t *testing.T) {
 	var group sync.WaitGroup
-	texts := make([]string, 8)
+	texts, primes := make([]string, 8), make([]bool, 8)
 	for i := range texts {
-		group.Go(func() { texts[i] = impl.PowersText(31607 * 31607) })
+		group.Go(func() {
+			texts[i] = impl.PowersText(31607 * 31607)
+			primes[i] = impl.IsPrime(greatestPrime)
+		})
 	}
 	group.Wait()
 	for i, text := range texts {
-		if text != "31607^2" {
-			t.Errorf("PowersText in goroutine %d: got %q", i, text)
+		if text != "31607^2" || !primes[i] {
+			t.Errorf("PowersText and IsPrime in goroutine %d: got %q %t", i, text, primes[i])
 		}
 	}
 }
