@@ -148,6 +148,8 @@ func (r Ratio) times(s Ratio) (int64, int64) { return r.Num * s.Num, r.Den * s.D
 
 func (r Ratio) negated() Ratio { return Ratio{Num: -r.Num, Den: r.Den} }
 
+func (r Ratio) absolute() Ratio { return Ratio{Num: int64(magnitude(r.Num)), Den: r.Den} }
+
 func (r Ratio) inverted() Ratio { return Ratio{Num: r.Den, Den: r.Num} }
 
 // scaled returns n * r, rounded to the nearest integer, the greater one of two.
