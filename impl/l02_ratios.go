@@ -86,11 +86,7 @@ func FloorRatio(r Ratio) int64 {
 	if !r.valid() {
 		return 0
 	}
-	whole := r.Num / r.Den
-	if r.Num%r.Den < 0 {
-		whole--
-	}
-	return whole
+	return floorOf(r.Num, r.Den)
 }
 
 // RoundRatio returns the nearest integer.
@@ -187,6 +183,15 @@ func lowestTerms(n, d int64) (Ratio, error) {
 		return r.negated(), nil
 	}
 	return r, nil
+}
+
+// floorOf returns n / d, rounded down, for a positive d.
+func floorOf(n, d int64) int64 {
+	whole := n / d
+	if n%d < 0 {
+		whole--
+	}
+	return whole
 }
 
 func ratioCode(err error) int64 {
