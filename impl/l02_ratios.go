@@ -194,6 +194,13 @@ func floorOf(n, d int64) int64 {
 	return whole
 }
 
+// nearestOf returns n / d, rounded to the nearest integer, the greater one of two, for a
+// positive d.
+func nearestOf(n, d int64) int64 {
+	// The quotient need not be a valid ratio, but it is rounded like one.
+	return Ratio{Num: n, Den: d}.scaled(1)
+}
+
 func ratioCode(err error) int64 {
 	switch {
 	case err == nil:
