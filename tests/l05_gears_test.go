@@ -565,18 +565,7 @@ func checkRead(t *testing.T, s string) bool {
 
 func TestPromise5ReadTrainOfChangedTexts(t *testing.T) {
 	for _, text := range []string{"-", "64:8", "240:6", "64:8 60:8", "12:240 240:12", "6:6 7:7 8:8 9:9 10:10"} {
-		for at := range len(text) + 1 {
-			for b := range 256 {
-				c := string([]byte{byte(b)})
-				checkRead(t, text[:at]+c+text[at:])
-				if at < len(text) {
-					checkRead(t, text[:at]+c+text[at+1:])
-				}
-			}
-			if at < len(text) {
-				checkRead(t, text[:at]+text[at+1:])
-			}
-		}
+		checkChanges(t, text, checkRead)
 	}
 }
 

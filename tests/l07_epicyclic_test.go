@@ -761,18 +761,7 @@ func checkReadEpi(t *testing.T, s string) bool {
 
 func TestPromise7ReadEpiOfChangedTexts(t *testing.T) {
 	for _, text := range []string{"24 12 4", "6 117 1", "228 6 2", "100 10 5"} {
-		for at := range len(text) + 1 {
-			for b := range 256 {
-				c := string([]byte{byte(b)})
-				checkReadEpi(t, text[:at]+c+text[at:])
-				if at < len(text) {
-					checkReadEpi(t, text[:at]+c+text[at+1:])
-				}
-			}
-			if at < len(text) {
-				checkReadEpi(t, text[:at]+text[at+1:])
-			}
-		}
+		checkChanges(t, text, checkReadEpi)
 	}
 }
 

@@ -1261,24 +1261,30 @@ func checkReadWorks(t *testing.T, s string) bool {
 
 func TestPromise8ReadWorksOfChangedTexts(t *testing.T) {
 	for _, text := range []string{textOf(going()), "arbor a 60 30\narbor b 40 240\nmesh b 1 a 0\nmesh a 1 b 0\n", "arbor abcdefghijkl\narbor a 6 7 8 9 10\n"} {
-		for at := range len(text) + 1 {
-			for b := range 256 {
-				c := string([]byte{byte(b)})
-				checkReadWorks(t, text[:at]+c+text[at:])
-				if at < len(text) {
-					checkReadWorks(t, text[:at]+c+text[at+1:])
-				}
-			}
-			if at < len(text) {
-				checkReadWorks(t, text[:at]+text[at+1:])
-			}
-			checkReadWorks(t, text[:at])
-			checkReadWorks(t, text[at:])
-		}
+		checkChanges(t, text, checkReadWorks)
 	}
 }
 
-// changedLines returns the text of works with one of its lines left out, put twice, put elsewhere, or with one of its words exchanged.
+// checkChanges checks the texts that arise from a text if one byte is put in, exchanged or left out, and the parts before and behind each place.
+func checkChanges(t *testing.T, text string, check func(*testing.T, string) bool) {
+	t.Helper()
+	for at := range len(text) + 1 {
+		for b := range 256 {
+			c := string([]byte{byte(b)})
+			check(t, text[:at]+c+text[at:])
+			if at < len(text) {
+				check(t, text[:at]+c+text[at+1:])
+			}
+		}
+		if at < len(text) {
+			check(t, text[:at]+text[at+1:])
+		}
+		check(t, text[:at])
+		check(t, text[at:])
+	}
+}
+
+// changedLines returns a text of lines with one of its lines left out, put twice, put elsewhere, or with one of its words exchanged.
 func changedLines(text string, source *rand.Rand) string {
 	lines := strings.SplitAfter(text, "\n")
 	i, k := source.Intn(len(lines)), source.Intn(len(lines))
